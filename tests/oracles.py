@@ -1,0 +1,94 @@
+"""What the document says, written again by trying all possibilities; nothing here calls the package."""
+import functools
+import itertools
+
+
+def reached(rows, start):
+    """Return the set of houses that can be reached by some rows."""
+    found = {start}
+    while True:
+        more = {end for row in rows for here, end in ((row[0], row[1]), (row[1], row[0])) if here in found}
+        if more <= found:
+            return found
+        found |= more
+
+
+def joins(web, roads):
+    return reached([web[1][road] for road in roads], 0) >= set(range(web[0]))
+
+
+def web_ok(value):
+    """Return whether any value is a web, by point [4]."""
+    if type(value) is not tuple or len(value) != 2:
+        return False
+    size, rows = value
+    if type(size) is not int or size not in range(1, 7) or type(rows) is not tuple or len(rows) > 10:
+        return False
+    for row in rows:
+        if type(row) is not tuple or [type(part) for part in row] != [int] * 4:
+            return False
+        if row[:2] not in list(itertools.combinations(range(size), 2)):
+            return False
+        if row[2] not in range(100) or row[3] not in range(row[2], 100):
+            return False
+    return joins(value, range(len(rows)))
+
+
+def all_detours(web, road):
+    """Return all detours of a road, by trying all orders of other roads."""
+    a, b = web[1][road][:2]
+    others = [other for other in range(len(web[1])) if other != road]
+    return sorted(way for many in range(1, web[0])
+                  for way in itertools.permutations(others, many) if leads(web, way, a, b))
+
+
+def leads(web, way, a, b):
+    """Return whether some roads lead from a to b in this order and come to no house twice."""
+    houses = [a]
+    for road in way:
+        pair = web[1][road][:2]
+        if houses[-1] not in pair:
+            return False
+        houses.append(pair[1] if pair[0] == houses[-1] else pair[0])
+    return houses[-1] == b and len(set(houses)) == len(houses)
+
+
+def all_sides(web, road):
+    a, b = web[1][road][:2]
+    return sorted(side for many in range(web[0] + 1) for side in itertools.combinations(range(web[0]), many)
+                  if a in side and b not in side)
+
+
+def all_crossing(web, side):
+    return [road for road in range(len(web[1])) if len(set(web[1][road][:2]) & set(side)) == 1]
+
+
+@functools.lru_cache(maxsize=None)
+def all_trees(web):
+    return sorted(roads for roads in itertools.combinations(range(len(web[1])), web[0] - 1) if joins(web, roads))
+
+
+def sums(lengths, roads):
+    found = 0
+    for road in roads:
+        found += lengths[road]
+    return found
+
+
+def least(web, lengths):
+    every = all_trees(web)
+    best = min(sums(lengths, tree) for tree in every)
+    return [tree for tree in every if sums(lengths, tree) == best]
+
+
+def in_some(web, rows):
+    return [road for road in range(len(web[1])) if [tree for tree in rows if road in tree]]
+
+
+def in_all(web, rows):
+    return [road for road in range(len(web[1])) if not [tree for tree in rows if road not in tree]]
+
+
+def word(flags):
+    """Return the word of Stage 6 for whether something holds, for each of all lengths."""
+    return {(True,): "always", (False,): "never"}.get(tuple(set(flags)), "sometimes")
