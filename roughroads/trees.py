@@ -1,7 +1,7 @@
 """Stage 3: the trees of a web, and which roads are used or needed for given lengths."""
 from itertools import combinations
 
-from roughroads.webs import is_joined, is_roads
+from roughroads.webs import is_joined, is_roads, merged
 
 
 def is_tree(web, value):
@@ -22,6 +22,34 @@ def trees(web):
 def choices(many, count):
     """Return all ascending tuples of so many of the first numbers, in ascending order."""
     return list(combinations(range(many), count))
+
+
+def in_order(lengths):
+    """Return all roads by their lengths, equal ones in ascending order."""
+    return sorted(range(len(lengths)), key=lambda road: lengths[road])
+
+
+def grown(web, roads):
+    """Return, as an ascending tuple, each of the roads that joins houses which those before it leave apart."""
+    parts = list(range(web[0]))
+    found = []
+    for road in roads:
+        a, b = web[1][road][:2]
+        if parts[a] != parts[b]:
+            parts = merged(parts, a, b)
+            found.append(road)
+    return tuple(sorted(found))
+
+
+def first_least(web, lengths):
+    """Return the first least tree in ascending order."""
+    # No tree is shorter than one that grows by the shortest roads; of equal ones it takes the first.
+    return grown(web, in_order(lengths))
+
+
+def least_total(web, lengths):
+    """Return the total of a least tree."""
+    return total(lengths, first_least(web, lengths))
 
 
 def total(lengths, tree):

@@ -25,6 +25,19 @@ def new_houses(row, houses):
     return [there for here, there in ((a, b), (b, a)) if here == houses[-1] and there not in houses]
 
 
+def ways_from(web, roads, start):
+    """Return a dict from each house that can be reached from a house by these roads to a way that leads there."""
+    ways = {start: ()}
+    # One round brings at least one house more, until none is left that can be reached.
+    for _ in range(web[0] - 1):
+        for road in roads:
+            a, b = web[1][road][:2]
+            for here, there in ((a, b), (b, a)):
+                if here in ways and there not in ways:
+                    ways[there] = (*ways[here], road)
+    return ways
+
+
 def is_detour(web, road, value):
     """Return whether any value is a detour of a road."""
     return is_integers(value) and value in detours(web, road)

@@ -40,8 +40,13 @@ def is_joined(size, rows):
     """Return whether each house can be reached from each other one by roads with these rows."""
     parts = list(range(size))
     for row in rows:
-        parts = [parts[row[0]] if part == parts[row[1]] else part for part in parts]
+        parts = merged(parts, row[0], row[1])
     return all([part == parts[0] for part in parts])
+
+
+def merged(parts, a, b):
+    """Return the part that each house belongs to, once a road joins the parts of the houses a and b."""
+    return [parts[a] if part == parts[b] else part for part in parts]
 
 
 def is_roads(web, value):
@@ -61,6 +66,16 @@ def high_of(web, road):
     return web[1][road][3]
 
 
+def lows(web):
+    """Return the lengths at which all roads have their lows."""
+    return tuple([row[2] for row in web[1]])
+
+
+def highs(web):
+    """Return the lengths at which all roads have their highs."""
+    return tuple([row[3] for row in web[1]])
+
+
 def best_lengths(web, roads):
     """Return the lengths at which these roads have their lows, and all others their highs."""
     return tuple([row[2] if road in roads else row[3] for road, row in enumerate(web[1])])
@@ -69,3 +84,10 @@ def best_lengths(web, roads):
 def worst_lengths(web, roads):
     """Return the lengths at which these roads have their highs, and all others their lows."""
     return tuple([row[3] if road in roads else row[2] for road, row in enumerate(web[1])])
+
+
+def bounded(web, road, low, high):
+    """Return the web in which a road has other bounds."""
+    size, rows = web
+    a, b = rows[road][:2]
+    return (size, (*rows[:road], (a, b, low, high), *rows[road + 1:]))

@@ -92,3 +92,44 @@ def in_all(web, rows):
 def word(flags):
     """Return the word of Stage 6 for whether something holds, for each of all lengths."""
     return {(True,): "always", (False,): "never"}.get(tuple(set(flags)), "sometimes")
+
+
+def least_sum(web, lengths):
+    return min(sums(lengths, tree) for tree in all_trees(web))
+
+
+def always_least(web, every):
+    """Return the trees that are least trees for each of some lengths."""
+    return [tree for tree in all_trees(web) if all(tree in least(web, lengths) for lengths in every)]
+
+
+def all_plans(web):
+    """Return all plans of a web."""
+    roads = range(len(web[1]))
+    return [tuple(tuple(road for road in roads if marks[road] == part) for part in (1, 2))
+            for marks in itertools.product(range(3), repeat=len(roads))]
+
+
+def plan_serves(web, plan, lengths):
+    built, dropped = map(set, plan)
+    return bool([tree for tree in least(web, lengths) if built <= set(tree) and not dropped & set(tree)])
+
+
+def all_reasons(web, plan, road):
+    """Return all reasons for a built or dropped road, by point [13]."""
+    built, dropped = plan
+    if road in built:
+        return [side for side in all_sides(web, road)
+                if not set(all_crossing(web, side)) & set(built) - {road}
+                and all(other == road or other in dropped or web[1][other][2] >= web[1][road][3]
+                        for other in all_crossing(web, side))]
+    return [way for way in all_detours(web, road)
+            if not set(way) & set(dropped) and all(web[1][other][3] <= web[1][road][2] for other in way)]
+
+
+def paper_ok(web, plan, value):
+    """Return whether any value is a paper of the plan."""
+    if type(value) is not dict or {type(key) for key in value} > {int} or set(value) != set(plan[0] + plan[1]):
+        return False
+    return all(type(key) is int and type(reason) is tuple and all(type(part) is int for part in reason)
+               and reason in all_reasons(web, plan, key) for key, reason in value.items())

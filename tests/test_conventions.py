@@ -1,9 +1,13 @@
 import copy
 import inspect
+import itertools
 import unittest
 
-from roughroads import errors, judging, needing, status, trees, using, ways, webs
+from roughroads import comparing, errors, judging, measuring, needing, plans, regrets, status, totals, trees, using
+from roughroads import ways, webs
 from samples import ALONE, CLEAR, LARGE, LINE, ROUGH, SMALL, TWIN, odd_values
+
+NOTHING = type(None)
 
 # The interface, as the document lists it: of each file the functions, with their arguments.
 INTERFACE = {
@@ -18,23 +22,58 @@ INTERFACE = {
     status: {"used_status": "web", "needed_status": "web"},
     judging: {"exchanges": "web, tree", "find_least": "web, tree", "find_beaten": "web, tree",
               "find_sure_exchange": "web, tree", "tree_status": "web, tree"},
+    totals: {"total_range": "web", "find_total": "web, number"},
+    regrets: {"regret_range": "web, tree", "find_regret": "web, tree, number", "least_regret": "web"},
+    comparing: {"difference_range": "web, other", "find_longer": "web, other"},
+    measuring: {"with_length": "web, road, length", "settled_tree": "web", "settling": "web, road"},
+    plans: {"is_plan": "web, value", "serves": "web, plan, lengths", "find_paper": "web, plan",
+            "find_breach": "web, plan", "is_paper": "web, plan, value"},
 }
+# The kinds of results, where the name does not tell: is_ returns a bool, find_ a tuple or None, others a list.
+KINDS = {"total": (int,), "tree_status": (str,), "total_range": (tuple,), "regret_range": (tuple,),
+         "least_regret": (tuple,), "difference_range": (tuple,), "with_length": (tuple,), "serves": (bool,),
+         "settled_tree": (tuple, NOTHING), "find_paper": (dict, NOTHING)}
 ERRORS = {"InvalidRoad": "road", "InvalidLength": "length", "InvalidBounds": "bounds", "Unsafe": "lengths"}
+
+
+def pools(web):
+    """Return for each name of an argument the values that the tests pass for it."""
+    lengths = tuple(row[2] for row in web[1])
+    tree = trees.trees(web)[-1]
+    roads = tuple(range(len(web[1])))
+    return {"web": [web], "other": [web], "road": roads, "value": odd_values() + [web, lengths, tree, ((), ()), {}],
+            "lengths": [lengths], "tree": [tree], "side": [(0,)], "number": [0, 3, sum(lengths)],
+            "plan": [((), ()), (tree, ()), ((), roads[:1]), (roads[1:2], roads[2:])]}
 
 
 def calls(web):
     """Return calls of all functions of the interface with this web, each a function and its arguments."""
-    lengths = tuple(row[2] for row in web[1])
-    tree = trees.trees(web)[-1]
-    roads = range(len(web[1]))
+    given = pools(web)
     found = []
     for module, functions in INTERFACE.items():
-        for name, arguments in functions.items():
-            for road in [*roads] if "road" in arguments else [None]:
-                for value in (odd_values() + [web, lengths, tree] if "value" in arguments else [None]):
-                    given = {"web": web, "road": road, "value": value, "lengths": lengths, "tree": tree, "side": (0,)}
-                    found.append((getattr(module, name), [given[word] for word in arguments.split(", ")]))
+        for name, words in functions.items():
+            words = words.split(", ")
+            for arguments in itertools.product(*[given[word] for word in words if word != "length"]):
+                if "length" in words:
+                    arguments += (web[1][arguments[1]][2],)
+                found.append((getattr(module, name), list(arguments)))
     return found
+
+
+def kinds_of(name):
+    """Return the kinds of results that a function of the interface may return."""
+    if name.startswith("is_"):
+        return (bool,)
+    return KINDS.get(name, (tuple, NOTHING) if name.startswith("find_") else (list,))
+
+
+def is_plain(result):
+    """Return whether a result is made of integers, strings, None, tuples, lists and dicts with integers as keys."""
+    if type(result) is dict:
+        return all(type(key) is int and is_plain(part) for key, part in result.items())
+    if type(result) in (list, tuple):
+        return all(is_plain(part) for part in result)
+    return type(result) in (int, str, NOTHING)
 
 
 def spoil(result):
@@ -66,7 +105,8 @@ class ConventionsTest(unittest.TestCase):
 
     def test_equal_results_and_new_ones(self):
         for web in [ROUGH, CLEAR, LINE, TWIN, ALONE] + SMALL[6:]:
-            every = [(function, arguments) for function, arguments in calls(web) if len(arguments) < 3]
+            every = [(function, arguments) for function, arguments in calls(web)
+                     if not function.__name__.startswith("is_")]
             results = [function(*arguments) for function, arguments in every]
             before = copy.deepcopy(results)
             for result in results:
@@ -75,20 +115,11 @@ class ConventionsTest(unittest.TestCase):
             self.assertEqual(again, before)
 
     def test_kinds_of_results(self):
-        lists = ["detours", "sides", "crossing", "trees", "least_trees", "used", "needed", "exchanges",
-                 "used_status", "needed_status"]
         for web in [ROUGH, CLEAR, TWIN, ALONE, LARGE[0]]:
             for function, arguments in calls(web):
-                name, result = function.__name__, function(*arguments)
-                if name.startswith("is_"):
-                    self.assertIs(type(result), bool, name)
-                elif name.startswith("find_"):
-                    self.assertIn(type(result), (tuple, type(None)), name)
-                else:
-                    kind = list if name in lists else {"total": int, "tree_status": str}[name]
-                    self.assertIs(type(result), kind, name)
-                for part in result if type(result) in (list, tuple) else []:
-                    self.assertIn(type(part), (int, str, tuple), name)
+                result = function(*arguments)
+                self.assertIn(type(result), kinds_of(function.__name__), function)
+                self.assertTrue(type(result) is bool or is_plain(result), function)
 
     def test_interface(self):
         for module, functions in INTERFACE.items():
