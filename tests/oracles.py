@@ -133,3 +133,26 @@ def paper_ok(web, plan, value):
         return False
     return all(type(key) is int and type(reason) is tuple and all(type(part) is int for part in reason)
                and reason in all_reasons(web, plan, key) for key, reason in value.items())
+
+
+@functools.lru_cache(maxsize=None)
+def least_for_all(web):
+    """Return a dict from all lengths of a small web to the least trees."""
+    every = itertools.product(*[range(row[2], row[3] + 1) for row in web[1]])
+    return {lengths: least(web, lengths) for lengths in every}
+
+
+def holds(web, plan, every=None):
+    """Return whether a plan serves all lengths of a small web, or all of those that are given."""
+    if every is not None:
+        return all(plan_serves(web, plan, lengths) for lengths in every)
+    built, dropped = map(set, plan)
+    return all(any(built <= set(tree) and not dropped & set(tree) for tree in trees)
+               for trees in least_for_all(web).values())
+
+
+def with_step(plan, step):
+    """Return the plan with a step taken."""
+    built, dropped = [set(part) for part in plan]
+    (built if step[0] == "build" else dropped).add(step[1])
+    return tuple(sorted(built)), tuple(sorted(dropped))

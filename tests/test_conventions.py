@@ -3,8 +3,8 @@ import inspect
 import itertools
 import unittest
 
-from roughroads import comparing, errors, judging, measuring, needing, plans, regrets, status, totals, trees, using
-from roughroads import ways, webs
+from roughroads import comparing, edits, errors, forecast, judging, measuring, needing, plans, regrets, shares
+from roughroads import status, steps, totals, trees, using, ways, webs
 from samples import ALONE, CLEAR, LARGE, LINE, ROUGH, SMALL, TWIN, odd_values
 
 NOTHING = type(None)
@@ -28,11 +28,20 @@ INTERFACE = {
     measuring: {"with_length": "web, road, length", "settled_tree": "web", "settling": "web, road"},
     plans: {"is_plan": "web, value", "serves": "web, plan, lengths", "find_paper": "web, plan",
             "find_breach": "web, plan", "is_paper": "web, plan, value"},
+    steps: {"taken": "plan, step", "options": "web, plan", "find_against": "web, plan, step",
+            "openers": "web, plan, step", "clashes": "web, plan", "completed": "web, plan"},
+    edits: {"with_bounds": "web, road, low, high", "with_road": "web, a, b, low, high", "kept": "web, plan, paper",
+            "mended": "web, plan, paper"},
+    shares: {"group_cost": "web, lengths, group", "fair_shares": "web, lengths", "is_shares": "web, lengths, value",
+             "find_refusing": "web, lengths, shares"},
+    forecast: {"is_enough": "web, lengths, roads", "fewest": "web, lengths", "unavoidable": "web, lengths"},
 }
 # The kinds of results, where the name does not tell: is_ returns a bool, find_ a tuple or None, others a list.
 KINDS = {"total": (int,), "tree_status": (str,), "total_range": (tuple,), "regret_range": (tuple,),
          "least_regret": (tuple,), "difference_range": (tuple,), "with_length": (tuple,), "serves": (bool,),
-         "settled_tree": (tuple, NOTHING), "find_paper": (dict, NOTHING)}
+         "settled_tree": (tuple, NOTHING), "find_paper": (dict, NOTHING), "taken": (tuple,), "completed": (tuple,),
+         "with_bounds": (tuple,), "with_road": (tuple,), "kept": (tuple,), "mended": (dict, NOTHING),
+         "group_cost": (int, NOTHING), "fair_shares": (tuple,)}
 ERRORS = {"InvalidRoad": "road", "InvalidLength": "length", "InvalidBounds": "bounds", "Unsafe": "lengths"}
 
 
@@ -41,22 +50,36 @@ def pools(web):
     lengths = tuple(row[2] for row in web[1])
     tree = trees.trees(web)[-1]
     roads = tuple(range(len(web[1])))
+    others = tuple(road for road in roads if road not in tree)
     return {"web": [web], "other": [web], "road": roads, "value": odd_values() + [web, lengths, tree, ((), ()), {}],
             "lengths": [lengths], "tree": [tree], "side": [(0,)], "number": [0, 3, sum(lengths)],
-            "plan": [((), ()), (tree, ()), ((), roads[:1]), (roads[1:2], roads[2:])]}
+            "plan": [((), ()), (tree, ()), ((), roads[:1]), (roads[1:2], roads[2:]), (tree, others)],
+            "step": [(word, road) for word in ("build", "drop") for road in roads],
+            "paper": [{}, {road: (0,) for road in roads}, {road: [[0], {}] for road in roads}],
+            "low": [0, 2], "high": [2, 99], "a": [0], "b": list(range(1, web[0])), "roads": [(), roads, tree],
+            "group": [tuple(range(1, many)) for many in range(2, web[0] + 1)], "shares": [(0,) * web[0], lengths]}
+
+
+def can_be(web, given):
+    """Return whether arguments fit together, as the document asks."""
+    if "step" in given and given["step"][1] in given["plan"][0] + given["plan"][1]:
+        return False
+    if "shares" in given and len(given["shares"]) != web[0]:
+        return False
+    return "length" not in given or given["length"] == web[1][given["road"]][2]
 
 
 def calls(web):
     """Return calls of all functions of the interface with this web, each a function and its arguments."""
     given = pools(web)
+    given["length"] = sorted(set(given["lengths"][0]))
     found = []
     for module, functions in INTERFACE.items():
         for name, words in functions.items():
             words = words.split(", ")
-            for arguments in itertools.product(*[given[word] for word in words if word != "length"]):
-                if "length" in words:
-                    arguments += (web[1][arguments[1]][2],)
-                found.append((getattr(module, name), list(arguments)))
+            for arguments in itertools.product(*[given[word] for word in words]):
+                if can_be(web, dict(zip(words, arguments))):
+                    found.append((getattr(module, name), list(arguments)))
     return found
 
 
