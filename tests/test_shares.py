@@ -32,8 +32,12 @@ def refusing(web, lengths, shares):
 
 
 def some_lengths(web):
-    return all_lengths(web)[::max(1, len(all_lengths(web)) // 7)] if web not in LARGE + [STAR, BEYOND] else [
-        tuple(row[2] for row in web[1]), tuple(row[3] for row in web[1]), tuple((row[2] + row[3]) // 2 for row in web[1])]
+    """Return some lengths of a web, of large ones those at their lows, at their highs and half between."""
+    if web in LARGE + [STAR, BEYOND]:
+        rows = web[1]
+        return [tuple(low + (high - low) * by // 2 for _, _, low, high in rows) for by in (0, 2, 1)]
+    every = all_lengths(web)
+    return every[::max(1, len(every) // 7)]
 
 
 def first_roads(web, tree):

@@ -28,7 +28,8 @@ class TreesTest(unittest.TestCase):
     def test_total(self):
         for roads in [(), (0,), (2,), (0, 0), (1, 1, 1), (2, 0), (0, 1, 2), (2, 2, 0, 1, 1)]:
             self.assertEqual(total((7, 20, 300), roads), sums((7, 20, 300), roads), roads)
-        self.assertEqual([total((4, 5), ()), total((4, 5), (1, 1)), total((), ()), total((0, 0), (0, 1))], [0, 10, 0, 0])
+        self.assertEqual([total((4, 5), ()), total((4, 5), (1, 1)), total((), ()), total((0, 0), (0, 1))],
+                         [0, 10, 0, 0])
 
     def test_least_trees_used_and_needed(self):
         for web in SMALL + drawn_webs(15):
