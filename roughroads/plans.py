@@ -20,6 +20,12 @@ def decided(plan):
     return sorted([*built, *dropped])
 
 
+def undecided(web, plan):
+    """Return the roads that are neither built nor dropped, in ascending order."""
+    built, dropped = plan
+    return [road for road in range(len(web[1])) if road not in built and road not in dropped]
+
+
 def serves(web, plan, lengths):
     """Return whether some least tree for these lengths contains all built roads and no dropped one."""
     built, dropped = plan

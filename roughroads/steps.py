@@ -1,6 +1,6 @@
 """Stage 13: what may be built or dropped next, while the plan holds."""
 from roughroads.measuring import with_length
-from roughroads.plans import find_breach
+from roughroads.plans import find_breach, undecided
 from roughroads.webs import high_of, low_of
 
 
@@ -20,9 +20,7 @@ def with_number(numbers, number):
 
 def steps(web, plan):
     """Return all steps in ascending order, those that are no options, too."""
-    built, dropped = plan
-    roads = [road for road in range(len(web[1])) if road not in built and road not in dropped]
-    return [(word, road) for word in ("build", "drop") for road in roads]
+    return [(word, road) for word in ("build", "drop") for road in undecided(web, plan)]
 
 
 def is_option(web, plan, step):

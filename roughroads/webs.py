@@ -56,6 +56,31 @@ def is_roads(web, value):
             and all([0 <= road < many for road in value]))
 
 
+def is_road(web, value):
+    """Return whether any value is a road."""
+    return is_integer(value) and 0 <= value < len(web[1])
+
+
+def is_length(web, road, value):
+    """Return whether any value is a length between the bounds of a road."""
+    return is_integer(value) and low_of(web, road) <= value <= high_of(web, road)
+
+
+def are_bounds(low, high):
+    """Return whether any two values are a low and a high that a road may have."""
+    return is_integer(low) and is_integer(high) and 0 <= low <= high <= MOST_LENGTH
+
+
+def are_within(web, road, low, high):
+    """Return whether any two values are a low and a high between the bounds of a road."""
+    return is_length(web, road, low) and is_length(web, road, high) and low <= high
+
+
+def may_be_added(web, value):
+    """Return whether any value is one (a, b, low, high) that the web may have more."""
+    return is_row(web[0], value) and len(web[1]) < MOST_ROADS
+
+
 def low_of(web, road):
     """Return the low of a road."""
     return web[1][road][2]

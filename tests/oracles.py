@@ -35,22 +35,30 @@ def web_ok(value):
 
 
 def all_detours(web, road):
-    """Return all detours of a road, by trying all orders of other roads."""
-    a, b = web[1][road][:2]
-    others = [other for other in range(len(web[1])) if other != road]
-    return sorted(way for many in range(1, web[0])
-                  for way in itertools.permutations(others, many) if leads(web, way, a, b))
+    """Return all detours of a road, by trying all choices of other roads."""
+    return list(detours_by_ends(web[0], tuple(row[:2] for row in web[1]), road))
 
 
-def leads(web, way, a, b):
-    """Return whether some roads lead from a to b in this order and come to no house twice."""
-    houses = [a]
-    for road in way:
-        pair = web[1][road][:2]
-        if houses[-1] not in pair:
-            return False
-        houses.append(pair[1] if pair[0] == houses[-1] else pair[0])
-    return houses[-1] == b and len(set(houses)) == len(houses)
+@functools.lru_cache(maxsize=None)
+def detours_by_ends(size, ends, road):
+    others = [other for other in range(len(ends)) if other != road]
+    ways = [ordered(ends, chosen, *ends[road]) for many in range(1, size)
+            for chosen in itertools.combinations(others, many)]
+    return sorted(way for way in ways if way is not None)
+
+
+def ordered(ends, chosen, a, b):
+    """Return the order in which all chosen roads lead from a to b and come to no house twice, or None."""
+    left, way, houses = set(chosen), [], [a]
+    while left:
+        # Two that go on from here would come back here.
+        following = [road for road in left if houses[-1] in ends[road]]
+        if len(following) != 1:
+            return None
+        way += following
+        left -= set(following)
+        houses.append(sum(ends[way[-1]]) - houses[-1])
+    return tuple(way) if houses[-1] == b and len(set(houses)) == len(houses) else None
 
 
 def all_sides(web, road):
@@ -156,3 +164,132 @@ def with_step(plan, step):
     built, dropped = [set(part) for part in plan]
     (built if step[0] == "build" else dropped).add(step[1])
     return tuple(sorted(built)), tuple(sorted(dropped))
+
+
+def lo(web, road):
+    return web[1][road][2], road
+
+
+def hi(web, road):
+    return web[1][road][3], road
+
+
+@functools.lru_cache(maxsize=None)
+def first_for_all(web):
+    """Return a dict from all lengths of a small web to the first least tree."""
+    return {lengths: rows[0] for lengths, rows in least_for_all(web).items()}
+
+
+def only_first(web, bounds):
+    """Return whether the first tree of a small web is the same for all lengths within narrower bounds."""
+    every = itertools.product(*[range(low, high + 1) for low, high in bounds])
+    first = first_for_all(web)
+    return len({first[lengths] for lengths in every}) == 1
+
+
+def is_fixed(web):
+    return only_first(web, [row[2:] for row in web[1]])
+
+
+def fixed_paper_ok(web, value):
+    """Return whether any value is a fixed paper, by point [19]."""
+    if type(value) is not tuple or len(value) != 2 or type(value[0]) is not tuple or type(value[1]) is not dict:
+        return False
+    tree, ways = value
+    if not all(type(road) is int for road in (*tree, *ways)) or tree not in all_trees(web):
+        return False
+    return (set(ways) == set(range(len(web[1]))) - set(tree)
+            and all(type(way) is tuple and all(type(part) is int for part in way) and way in all_detours(web, road)
+                    and set(way) <= set(tree) and all(hi(web, one) < lo(web, road) for one in way)
+                    for road, way in ways.items()))
+
+
+def lower_others(web, road, side):
+    """Return the other crossing roads of a side that have a lesser lo."""
+    return tuple(one for one in all_crossing(web, side) if one != road and lo(web, one) < lo(web, road))
+
+
+def witness_ok(web, value):
+    """Return whether any value is a witness, by point [20]."""
+    if type(value) is not tuple or len(value) != 4 or type(value[0]) is not int:
+        return False
+    road, *ways = value
+    if road not in range(len(web[1])) or any(type(way) is not tuple for way in ways):
+        return False
+    way, side, others = ways
+    if not all(type(part) is int for part in way + side + others):
+        return False
+    return (way in all_detours(web, road) and all(hi(web, one) < hi(web, road) for one in way)
+            and side in all_sides(web, road) and others == lower_others(web, road, side)
+            and all(lo(web, road) < hi(web, one) for one in others))
+
+
+def tight_ok(web, value):
+    if not witness_ok(web, value):
+        return False
+    way, others = value[1], value[3]
+    return not others or (len(others) == 1 and others[0] in way
+                          and all(lo(web, one) < hi(web, others[0]) for one in way if one != others[0]))
+
+
+def all_witnesses(web):
+    """Return all witnesses of a web."""
+    return [(road, way, side, lower_others(web, road, side)) for road in range(len(web[1]))
+            for way in all_detours(web, road) for side in all_sides(web, road)
+            if witness_ok(web, (road, way, side, lower_others(web, road, side)))]
+
+
+def tree_pairs(web, lengths):
+    """Return all pairs of point [21] for some lengths."""
+    tree = least(web, lengths)[0]
+    return [(one, road) for road in range(len(web[1])) if road not in tree
+            for way in all_detours(web, road) if set(way) <= set(tree) for one in way]
+
+
+def grounds(web, lengths):
+    """Return a dict from all compulsory roads to their grounds."""
+    found = {}
+    for one, other in tree_pairs(web, lengths):
+        if hi(web, one) > (lengths[other], other):
+            found.setdefault(one, []).append(other)
+        if (lengths[one], one) > lo(web, other):
+            found.setdefault(other, []).append(one)
+    return found
+
+
+def free_pairs(web, lengths):
+    """Return, in ascending order, the unsure pairs of which no road is compulsory."""
+    known = grounds(web, lengths)
+    return sorted((one, other) for one, other in tree_pairs(web, lengths)
+                  if hi(web, one) > lo(web, other) and one not in known and other not in known)
+
+
+def all_choices(web):
+    """Return all ascending tuples of roads."""
+    roads = range(len(web[1]))
+    return [chosen for many in range(len(web[1]) + 1) for chosen in itertools.combinations(roads, many)]
+
+
+def fixing_choices(web, lengths):
+    """Return all ascending tuples of roads that fix the tree, by the remark in point [21]."""
+    known, pairs = set(grounds(web, lengths)), free_pairs(web, lengths)
+    return [chosen for chosen in all_choices(web) if known <= set(chosen) and all(set(pair) & set(chosen)
+                                                                                 for pair in pairs)]
+
+
+def cheapest_ok(web, lengths, prices, value):
+    """Return whether any value is a cheapest paper, by point [22]."""
+    if type(value) is not tuple or len(value) != 2 or type(value[0]) is not tuple or type(value[1]) is not dict:
+        return False
+    roads, payments = value
+    if not all(type(road) is int for road in roads) or roads not in fixing_choices(web, lengths):
+        return False
+    if not all(type(pair) is tuple and [type(road) for road in pair] == [int] * 2 for pair in payments):
+        return False
+    if not set(payments) <= set(free_pairs(web, lengths)):
+        return False
+    if not all(type(amount) is int and amount > 0 for amount in payments.values()):
+        return False
+    if any(sum(payments[pair] for pair in payments if road in pair) > price for road, price in enumerate(prices)):
+        return False
+    return sums(prices, roads) == sums(prices, grounds(web, lengths)) + sum(payments.values())

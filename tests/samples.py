@@ -7,6 +7,9 @@ CLEAR = (3, ((0, 1, 1, 2), (1, 2, 1, 2), (0, 2, 5, 6)))
 LINE = (4, ((0, 1, 1, 4), (1, 2, 2, 3), (2, 3, 3, 6)))
 TWIN = (2, ((0, 1, 5, 5), (0, 1, 5, 5)))
 ALONE = (1, ())
+TIED = (2, ((0, 1, 5, 5), (0, 1, 4, 5)))
+WIDE = (2, ((0, 1, 0, 9), (0, 1, 2, 5)))
+PAIR = (2, (0, 1), (0,), (0,))
 
 # Webs that the document's edges ask for, small enough to try all their lengths.
 SMALL = [
@@ -113,3 +116,56 @@ def near(value, many):
 def is_one_of(value, rows):
     """Return whether a value is one of some tuples of integers, also by the kinds of its parts."""
     return type(value) is tuple and all(type(part) is int for part in value) and value in rows
+
+
+def changed(value):
+    """Return what is like a value but for one change of some part, at any depth; some of it may be right, too."""
+    found = [None, (), [], {}, "", (value,), [value]]
+    if type(value) is int:
+        found += [value - 1, value + 1, -value, value == 1, value != 0, str(value), 10 ** 59]
+    elif type(value) is str:
+        found += [value + "s", value.upper(), 0]
+    elif type(value) is dict:
+        found += changed_dicts(value)
+    elif type(value) in (list, tuple):
+        found += [tuple(value), list(value), dict(enumerate(value))]
+        found += [type(value)(worse) for worse in changed_rows(list(value))]
+    return found
+
+
+def changed_rows(rows):
+    """Return lists that are like a list but for one part that is put in, left out, exchanged or changed."""
+    found = [rows[::-1]]
+    for at, part in enumerate(rows):
+        found += [rows[:at] + rows[at + 1:], rows[:at] + [part] + rows[at:], rows + [part], [part] + rows]
+        found += [rows[:at] + rows[at + 1:at + 2] + [part] + rows[at + 2:]]
+        found += [rows[:at] + [worse] + rows[at + 1:] for worse in changed(part)]
+    return found + [rows[:at] + [more] + rows[at:] for at in range(len(rows) + 1) for more in (0, 1, True, None, ())]
+
+
+def changed_dicts(value):
+    """Return dicts that are like a dict but for one key that is put in, left out, exchanged or changed."""
+    found = [list(value.items()), list(value), dict(list(value.items())[::-1])]
+    for key, part in value.items():
+        rest = {other: value[other] for other in value if other != key}
+        found += [rest] + [{**rest, key: worse} for worse in changed(part)]
+        found += [{**rest, worse: part} for worse in changed(key) if is_key(worse) and worse not in rest]
+        found += [{other: value[key] if other == more else value[other] for other in value} for more in rest]
+    parts = list(value.values())[:1] + [(0,), (), 1]
+    return found + [{**value, more: part} for more in (0, 1, 2, 3, -1, False, True, None, "0", ())
+                    for part in parts if more not in value]
+
+
+def is_key(value):
+    return type(value) not in (list, dict) and (type(value) is not tuple or all(map(is_key, value)))
+
+
+def exact(value):
+    """Return a text that is equal for equal values of the same kinds alone, however the keys of dicts stand."""
+    if type(value) is dict:
+        return "{" + ", ".join(sorted(exact(key) + ": " + exact(value[key]) for key in value)) + "}"
+    if type(value) is list:
+        return "[" + ", ".join(map(exact, value)) + "]"
+    if type(value) is tuple:
+        return "(" + ", ".join(map(exact, value)) + ")"
+    return repr(value)

@@ -46,6 +46,20 @@ def bound_names(tree):
     return names
 
 
+def methods(tree):
+    """Return the names of the methods of a file."""
+    return [node.name for kind in ast.walk(tree) if isinstance(kind, ast.ClassDef)
+            for node in kind.body if isinstance(node, ast.FunctionDef)]
+
+
+def inner_names(tree):
+    """Return the names that a file binds below module level, but those of methods, which no name in it finds."""
+    names = bound_names(tree)
+    for name in top_names(tree) + methods(tree):
+        names.remove(name)
+    return names
+
+
 def top_names(tree):
     """Return the names that a file binds at module level, but by imports."""
     names = [node.name for node in tree.body if isinstance(node, (ast.FunctionDef, ast.ClassDef))]
@@ -126,8 +140,7 @@ class LanguageTest(unittest.TestCase):
                 self.assertTrue(word in DOUBLE or re.fullmatch(r"_?[A-Za-z][A-Za-z0-9_]*|_", word), (name, word))
                 self.assertNotIn(word, dir(builtins), name)
                 self.assertNotIn(word, BARRED_NAMES, name)
-            inner = set(bound_names(tree)) - set(top_names(tree))
-            self.assertEqual(inner & set(taken), set(), name)
+            self.assertEqual(set(inner_names(tree)) & set(taken), set(), name)
 
     def test_builtins_and_methods(self):
         for name, node in nodes(ast.Name):
