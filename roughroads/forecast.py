@@ -1,13 +1,11 @@
 """Stage 16: which roads have to be measured until one tree is least, if the true lengths are given."""
-from roughroads.measuring import settled_tree, with_length
+from roughroads.measuring import settled_tree, with_lengths
 from roughroads.trees import choices
 
 
 def is_enough(web, lengths, roads):
     """Return whether an ascending tuple of roads is enough."""
-    for road in roads:
-        web = with_length(web, road, lengths[road])
-    return settled_tree(web) is not None
+    return settled_tree(with_lengths(web, lengths, roads)) is not None
 
 
 def fewest(web, lengths):

@@ -9,6 +9,13 @@ def with_length(web, road, length):
     return bounded(web, road, length, length)
 
 
+def with_lengths(web, lengths, roads):
+    """Return the web in which each of some roads has its length."""
+    for road in roads:
+        web = with_length(web, road, lengths[road])
+    return web
+
+
 def settled_tree(web):
     """Return the first tree that is a least tree for all lengths, or None if there is none."""
     # If there are such trees, they are those that are least by (high, low) of their roads: two such trees

@@ -1,4 +1,4 @@
-"""What the tests of Stages 4 and 5 ask in the same way of used and of needed roads."""
+"""What several tests ask in the same way: of used and of needed roads, and of objects that are equal or not."""
 from oracles import all_crossing, all_detours, all_sides, in_all, in_some, least
 from samples import all_lengths, is_one_of, near, odd_values
 
@@ -106,3 +106,11 @@ def check_beyond(case, webs, finds, right_of, strictly):
             if lengths is not None:
                 case.assertEqual([row[2] <= length <= row[3] for length, row in zip(lengths, web[1], strict=True)],
                                  [True] * len(web[1]))
+
+
+def check_equal(case, one, other, right):
+    """Check by both signs and in both orders whether two values are equal."""
+    case.assertIs(one == other, right)
+    case.assertIs(other == one, right)
+    case.assertIs(one != other, not right)
+    case.assertIs(other != one, not right)

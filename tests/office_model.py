@@ -89,6 +89,26 @@ def event_ok(web, plan, value):
             and counts.get(value[0]) == len(value) and refused(web, plan, value) is None)
 
 
+def drawn_event(web, plan, draw):
+    """Return an event that may be accepted, or refused as unsafe, or now and then for its arguments."""
+    word = draw.choice(["measure", "build", "drop", "build", "drop", "correct", "add"])
+    if word in ("build", "drop"):
+        roads = undecided(web, plan)
+        return word, draw.choice(roads) if roads and draw.random() < 0.95 else draw.randint(-1, len(web[1]))
+    if word == "add":
+        a, b = sorted(draw.sample(range(web[0]), 2)) if web[0] > 1 else (0, 1)
+        low = draw.randint(0, 5)
+        return word, a, b, low, low + draw.randint(-1 if draw.random() < 0.1 else 0, 3)
+    road = draw.randint(0, max(0, len(web[1]) - (draw.random() < 0.95)))
+    if road == len(web[1]):
+        return (word, road, 0) if word == "measure" else (word, road, 0, 1)
+    low, high = web[1][road][2:]
+    if word == "measure":
+        return word, road, draw.randint(low, high) if draw.random() < 0.9 else high + 1
+    low = max(0, low + draw.choice([-2, -1, 0, 0, 1, 2]))
+    return word, road, low, low + draw.randint(0, 4)
+
+
 def told(office):
     """Return all that an office tells without being changed, exactly."""
     return exact([office.web(), office.plan(), office.paper(), office.options(), office.pending(), office.is_done(),

@@ -40,6 +40,15 @@ LARGE = [
 BEYOND = (7, ((0, 1, 1, 2), (1, 2, 1, 3), (2, 3, 2, 2), (3, 4, 1, 4), (4, 5, 2, 3), (5, 6, 1, 1),
               (0, 6, 2, 120), (1, 5, 2, 2), (2, 4, 100, 101), (0, 3, 1, 9), (0, 1, 2, 2)))
 
+# Webs of four to six houses with many unsure pairs, too large to try all their lengths.
+MANY = [
+    (6, ((0, 1, 0, 20), (1, 2, 0, 20), (2, 3, 0, 20), (3, 4, 0, 20), (4, 5, 0, 20),
+         (0, 5, 10, 99), (0, 2, 15, 99), (2, 4, 18, 99), (1, 5, 19, 99), (0, 3, 20, 99))),
+    (6, ((0, 1, 0, 10), (0, 1, 5, 12), (1, 2, 1, 10), (1, 2, 5, 13), (2, 3, 2, 10), (2, 3, 5, 14),
+         (3, 4, 3, 10), (3, 4, 5, 15), (4, 5, 4, 10), (4, 5, 5, 16))),
+    (4, ((0, 1, 0, 9), (1, 2, 0, 9), (2, 3, 0, 9), (0, 3, 1, 10), (0, 2, 2, 11), (1, 3, 3, 12), (0, 1, 4, 13))),
+]
+
 
 def drawn_webs(many):
     """Return webs of two to five houses, the same ones each time, small enough to try all lengths."""
@@ -62,6 +71,13 @@ def drawn_webs(many):
 def drawn_bounds(draw):
     low = draw.randint(0, 4)
     return (low, low + draw.choice([0, 0, 1, 1, 2, 3]))
+
+
+def drawn_lengths(web, many):
+    """Return the lows, the highs, and some lengths between them, the same ones each time."""
+    draw = random.Random(9)
+    ends = [tuple(row[k] for row in web[1]) for k in (2, 3)]
+    return ends + [tuple(draw.randint(*row[2:]) for row in web[1]) for _ in range(many)]
 
 
 def all_lengths(web):

@@ -3,11 +3,10 @@ import itertools
 import random
 import unittest
 
-from office_model import NOTHING, behind, event_ok, has_paper, log_ok, make, reasons, still_reasons
+from office_model import NOTHING, behind, drawn_event, event_ok, has_paper, log_ok, make, reasons, still_reasons
 from roughroads.logs import is_log, log, replayed
 from roughroads.office import Office
 from samples import ALONE, BEYOND, CLEAR, LARGE, LINE, ROUGH, SMALL, TWIN, changed, drawn_webs, exact, odd_values
-from test_office import drawn_event
 
 TRIED = SMALL + drawn_webs(30)
 EQUALS = (2, ((0, 1, 2, 2), (0, 1, 2, 2), (0, 1, 2, 3)))
@@ -204,9 +203,10 @@ class LogTest(unittest.TestCase):
                                (("build", 1), {1: (2,)}), (("build", 1), {1: (1, 0)}), (("build", 1), {1: (0, 2)}),
                                (("build", 1), {1: [0, 1]}), (("build", 1), {1: (0, 1, 1)}), (("build", 1), {1: (1,)}),
                                (("build", 1), {1: ()}), (("build", 1), {1: None}), (("build", 1), {1: {}}),
-                               (("build", 1), {"1": (0, 1)}), (("build", 1), {(1,): (0, 1)}), (("drop", 2), {2: (0, 1)}),
-                               (("drop", 1), {1: (0, 1)}), (("build", 1), [(1, (0, 1))]), (("build", 1), ((1, (0, 1)),)),
-                               (("build", 1), None), (("build", 1), (0, 1)), (("build", 1), [])]:
+                               (("build", 1), {"1": (0, 1)}), (("build", 1), {(1,): (0, 1)}),
+                               (("drop", 2), {2: (0, 1)}), (("drop", 1), {1: (0, 1)}),
+                               (("build", 1), [(1, (0, 1))]), (("build", 1), ((1, (0, 1)),)), (("build", 1), None),
+                               (("build", 1), (0, 1)), (("build", 1), [])]:
             self.assertIs(is_log(ROUGH, [(event, changes)]), False, (event, changes))
 
     def test_keys_put_in_in_another_order(self):

@@ -2,7 +2,8 @@ import copy
 import random
 import unittest
 
-from office_model import Model, has_paper, make, told, undecided
+from checks import check_equal
+from office_model import Model, drawn_event, make, told
 from oracles import all_trees, least, plan_serves
 from roughroads import errors
 from roughroads.logs import log
@@ -16,26 +17,6 @@ TWICE_TWO = (2, ((0, 1, 2, 2), (0, 1, 2, 2), (0, 1, 2, 2)))
 UNLIKE = [True, False, None, "0", "1", (), (0,), [], [0], {}, {0: 0}]
 FAR = [-1, 3, 4, 7, 10, 99, 100, 10 ** 60 - 1, 1 - 10 ** 60]
 BUSY = [("build", 1), ("measure", 0, 3), ("build", 0), ("correct", 2, 4, 9), ("drop", 2), ("undo",), ("undo",)]
-
-
-def drawn_event(web, plan, draw):
-    """Return an event that may be accepted, or refused as unsafe, or now and then for its arguments."""
-    word = draw.choice(["measure", "build", "drop", "build", "drop", "correct", "add"])
-    if word in ("build", "drop"):
-        roads = undecided(web, plan)
-        return word, draw.choice(roads) if roads and draw.random() < 0.95 else draw.randint(-1, len(web[1]))
-    if word == "add":
-        a, b = sorted(draw.sample(range(web[0]), 2)) if web[0] > 1 else (0, 1)
-        low = draw.randint(0, 5)
-        return word, a, b, low, low + draw.randint(-1 if draw.random() < 0.1 else 0, 3)
-    road = draw.randint(0, max(0, len(web[1]) - (draw.random() < 0.95)))
-    if road == len(web[1]):
-        return (word, road, 0) if word == "measure" else (word, road, 0, 1)
-    low, high = web[1][road][2:]
-    if word == "measure":
-        return word, road, draw.randint(low, high) if draw.random() < 0.9 else high + 1
-    low = max(0, low + draw.choice([-2, -1, 0, 0, 1, 2]))
-    return word, road, low, low + draw.randint(0, 4)
 
 
 class ExamplesTest(unittest.TestCase):
@@ -461,18 +442,12 @@ class UndoTest(unittest.TestCase):
 
 
 class EqualTest(unittest.TestCase):
-    def check(self, one, other, right):
-        self.assertIs(one == other, right)
-        self.assertIs(other == one, right)
-        self.assertIs(one != other, not right)
-        self.assertIs(other != one, not right)
-
     def test_same_events(self):
         for events in [[], BUSY, BUSY[:5]]:
-            self.check(make(ROUGH, events), make(ROUGH, events), True)
+            check_equal(self, make(ROUGH, events), make(ROUGH, events), True)
         office = make(ROUGH, BUSY)
-        self.check(office, office, True)
-        self.check(make(ROUGH, []), make((3, ROUGH[1] + ()), []), True)
+        check_equal(self, office, office, True)
+        check_equal(self, make(ROUGH, []), make((3, ROUGH[1] + ()), []), True)
 
     def test_other_webs(self):
         # Equal logs, but webs that differ, also where they are equal behind the log.
@@ -481,31 +456,31 @@ class EqualTest(unittest.TestCase):
                                    ((2, ((0, 1, 1, 3),)), (2, ((0, 1, 2, 3),)), [("correct", 0, 0, 9)]),
                                    (LINE, (4, LINE[1][:2] + ((1, 3, 3, 6),)), [("measure", 0, 2)])]:
             self.assertEqual(log(make(one, events)), log(make(other, events)))
-            self.check(make(one, events), make(other, events), False)
+            check_equal(self, make(one, events), make(other, events), False)
 
     def test_other_logs(self):
         events = [("measure", 0, 3), ("measure", 2, 4)]
-        self.check(make(ROUGH, events), make(ROUGH, events[::-1]), False)
-        self.check(make(ROUGH, events), make(ROUGH, events[:1]), False)
-        self.check(make(ROUGH, []), make(ROUGH, events[:1]), False)
-        self.check(make(ROUGH, [("measure", 0, 3)]), make(ROUGH, [("correct", 0, 3, 3)]), False)
-        self.check(make(ROUGH, [("measure", 0, 3)]), make(ROUGH, [("measure", 0, 3)] * 2), False)
-        self.check(make(ROUGH, [("measure", 0, 3)]), make(ROUGH, [("measure", 0, 2)]), False)
-        self.check(make(TWIN, [("build", 0), ("drop", 1)]), make(TWIN, [("drop", 1), ("build", 0)]), False)
+        check_equal(self, make(ROUGH, events), make(ROUGH, events[::-1]), False)
+        check_equal(self, make(ROUGH, events), make(ROUGH, events[:1]), False)
+        check_equal(self, make(ROUGH, []), make(ROUGH, events[:1]), False)
+        check_equal(self, make(ROUGH, [("measure", 0, 3)]), make(ROUGH, [("correct", 0, 3, 3)]), False)
+        check_equal(self, make(ROUGH, [("measure", 0, 3)]), make(ROUGH, [("measure", 0, 3)] * 2), False)
+        check_equal(self, make(ROUGH, [("measure", 0, 3)]), make(ROUGH, [("measure", 0, 2)]), False)
+        check_equal(self, make(TWIN, [("build", 0), ("drop", 1)]), make(TWIN, [("drop", 1), ("build", 0)]), False)
         # The log counts, not what it leads to.
-        self.check(make(ROUGH, [("correct", 0, 1, 4)]), make(ROUGH, []), False)
+        check_equal(self, make(ROUGH, [("correct", 0, 1, 4)]), make(ROUGH, []), False)
 
     def test_taken_back(self):
-        self.check(make(ROUGH, [("build", 1), ("undo",)]), make(ROUGH, []), True)
-        self.check(make(ROUGH, [("build", 1), ("undo",), ("redo",)]), make(ROUGH, [("build", 1)]), True)
-        self.check(make(ROUGH, [("build", 1), ("measure", 0, 3), ("undo",)]), make(ROUGH, [("build", 1)]), True)
-        self.check(make(ROUGH, [("build", 1), ("undo",)]), make(ROUGH, [("build", 1)]), False)
+        check_equal(self, make(ROUGH, [("build", 1), ("undo",)]), make(ROUGH, []), True)
+        check_equal(self, make(ROUGH, [("build", 1), ("undo",), ("redo",)]), make(ROUGH, [("build", 1)]), True)
+        check_equal(self, make(ROUGH, [("build", 1), ("measure", 0, 3), ("undo",)]), make(ROUGH, [("build", 1)]), True)
+        check_equal(self, make(ROUGH, [("build", 1), ("undo",)]), make(ROUGH, [("build", 1)]), False)
 
     def test_values_that_are_no_office(self):
         office = make(ROUGH, [("build", 1)])
         for value in odd_values() + [ROUGH, log(office), (ROUGH, log(office)), office.plan(), office.paper(), Office,
                                      errors.InvalidRoad(1), object()]:
-            self.check(office, value, False)
+            check_equal(self, office, value, False)
 
     def test_choices_depend_on_the_log_alone(self):
         for at, web in enumerate(TRIED):
@@ -521,7 +496,7 @@ class EqualTest(unittest.TestCase):
                 else:
                     model.check()
             other = make(web, model.events)
-            self.check(model.office, other, True)
+            check_equal(self, model.office, other, True)
             self.assertEqual(told(model.office), told(other))
             self.assertEqual(exact(log(model.office)), exact(log(other)))
 

@@ -44,7 +44,8 @@ class FindWitnessTest(unittest.TestCase):
         self.assertEqual(exact([find_witness(ROUGH), unlike_lengths(ROUGH, PAIR), is_tight(ROUGH, PAIR),
                                 find_witness(CLEAR)]), exact([PAIR, ((1, 2, 6), (4, 2, 3)), True, None]))
         self.assertEqual(exact([find_must(WIDE, 0), find_without(WIDE, 0), find_must(ROUGH, 0),
-                                is_witness(ROUGH, (2, (0, 1), (0,), ()))]), exact([(0, (1,), (0,), ()), None, None, False]))
+                                is_witness(ROUGH, (2, (0, 1), (0,), ()))]),
+                         exact([(0, (1,), (0,), ()), None, None, False]))
 
     def test_none_exactly_if_the_web_is_fixed(self):
         seen = set()
