@@ -21,13 +21,13 @@ def cheapest(web, lengths, prices):
     """Return a cheapest paper."""
     pairs = unsure_pairs(web, lengths)
     payments = most_payments(pairs, prices)
-    # A road of the tree to which no way leads is paid for in full, and so is another road to which one leads. Of
-    # each pair with a payment just one road is taken: a way to the second road goes on to the first one.
+    # A road of the tree to which no way leads is paid for in full, and so is another road to which one leads. These
+    # are taken: one at least of each pair, as a way to its first road goes on to the second one, and just one of
+    # each pair with a payment, as a way to its second road goes on to the first one.
     ways = ways_from_rests(pairs, prices, payments)
-    taken = [road for road in range(len(prices))
-             if any([one == road and one not in ways for one, other in pairs])
-             or any([other == road and other in ways for one, other in pairs])]
-    return (tuple(sorted([*compulsory(web, lengths), *taken])), payments)
+    unreached = [one for one, other in pairs if one not in ways]
+    reached = [other for one, other in pairs if other in ways]
+    return (tuple(sorted(set([*compulsory(web, lengths), *unreached, *reached]))), payments)
 
 
 def most_payments(pairs, prices):

@@ -196,6 +196,15 @@ class IsCheapestTest(unittest.TestCase):
                       ((0, 1, 2), {(2, 3): 1}), ((2,), {}), ((1,), {}), ((1, 2), {})]:
             self.assertIs(is_cheapest(web, lengths, (1, 1, 1, 1), value), False, value)
 
+    def test_payments_below_one(self):
+        # Road 0 alone fixes both pairs, whatever is paid for which; a payment of 0 or less changes no sum here.
+        web, lengths, prices = (2, ((0, 1, 0, 2), (0, 1, 1, 3), (0, 1, 1, 4))), (0, 3, 3), (2, 5, 5)
+        self.assertEqual(free_pairs(web, lengths), [(0, 1), (0, 2)])
+        for one, other, right in [(1, 1, True), (2, None, True), (None, 2, True), (2, 0, False), (0, 2, False),
+                                  (3, -1, False), (-1, 3, False), (-3, 5, False), (1, True, False), (2, False, False)]:
+            payments = {pair: amount for pair, amount in zip([(0, 1), (0, 2)], [one, other]) if amount is not None}
+            self.assertIs(self.check(web, lengths, prices, ((0,), payments)), right, payments)
+
     def test_other_cheapest_papers(self):
         # Two papers are right for equal prices, and several payments.
         web, lengths = MANY[2], (1, 2, 3, 10, 11, 12, 13)

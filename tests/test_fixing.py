@@ -45,7 +45,7 @@ class FixingTest(unittest.TestCase):
         seen = set()
         for web in TRIED:
             every = all_lengths(web)
-            for lengths in every[::len(every) // 60 + 1]:
+            for lengths in every[::len(every) // 201 + 1]:
                 seen.add(self.check(web, lengths, all_choices(web), lambda roads: fixed_by(web, lengths, roads)))
         self.assertEqual(len(seen), 4)
 
@@ -106,6 +106,8 @@ class FixingTest(unittest.TestCase):
         web = (2, ((0, 1, 2, 6), (0, 1, 3, 5)))
         self.assertEqual([compulsory(web, (4, 4)), unsure_pairs(web, (4, 4))], [{0: 1, 1: 0}, []])
         self.assertEqual([fixes(web, (4, 4), roads) for roads in all_choices(web)], [False, False, False, True])
+        # Road 0 is compulsory as a road of the tree, or as one that is not in it.
+        self.assertEqual([compulsory(web, (2, 4)), compulsory(web, (5, 3))], [{0: 1}, {0: 1, 1: 0}])
         # Two grounds for one road.
         web = (2, ((0, 1, 2, 6), (0, 1, 3, 3), (0, 1, 4, 4)))
         self.assertIn(compulsory(web, (2, 3, 4)), [{0: 1}, {0: 2}])

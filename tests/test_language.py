@@ -29,6 +29,8 @@ DOUBLE = """__init__ __eq__ __repr__ __str__ __len__ __enter__ __exit__ __call__
 BARRED_WORDS = """type typing typing_extensions enum Enum IntEnum StrEnum Flag IntFlag Generic Protocol ABC ABCMeta
     namedtuple NamedTuple TypedDict TYPE_CHECKING abstractmethod dataclass overload contextmanager""".split()
 BARRED_NAMES = """register mro elements open input law version_info with_traceback add_note""".split()
+BARRED_ATTRIBUTES = """items keys values pop update append clear extend insert remove reverse setdefault sort args
+    encode decode hex fromhex format""".split()
 NODES = (ast.AsyncFunctionDef, ast.AsyncFor, ast.AsyncWith, ast.Await, ast.Global, ast.TryStar, ast.SetComp, ast.Set,
          ast.GeneratorExp, ast.Yield, ast.YieldFrom, ast.Div)
 
@@ -131,6 +133,45 @@ class LanguageTest(unittest.TestCase):
         self.assertEqual([(name, node.lineno) for name, node in nodes(NODES)], [])
         for name, node in nodes(ast.Constant):
             self.assertNotIsInstance(node.value, (float, complex, bytes), (name, node.lineno))
+
+    def test_classes(self):
+        stored = {node.attr for _, node in nodes(ast.Attribute) if isinstance(node.ctx, ast.Store)}
+        self.assertEqual(stored & set(BARRED_ATTRIBUTES), set())
+        for name, tree in TREES.items():
+            every = methods(tree)
+            kinds = [node for node in tree.body if isinstance(node, ast.ClassDef)]
+            self.assertEqual(sum(isinstance(node, ast.ClassDef) for node in ast.walk(tree)), len(kinds), name)
+            for kind in kinds:
+                own = [node.name for node in kind.body if isinstance(node, ast.FunctionDef)]
+                self.assertEqual(len(own), len(set(own)), kind.name)
+                self.assertEqual({node.attr for node in ast.walk(kind) if isinstance(node, ast.Attribute)
+                                  and isinstance(node.ctx, ast.Store)} & set(own), set(), kind.name)
+            self.assertEqual(set(every) & set(BARRED_NAMES), set(), name)
+        for name, node in nodes(ast.Attribute):
+            if isinstance(node.ctx, ast.Load) and node.attr.startswith("_") and not node.attr.startswith("__"):
+                self.assertIn(node.attr, [*stored, *[word for tree in TREES.values() for word in methods(tree)]], name)
+
+    def test_equality(self):
+        # The one form of __eq__ beside which all other rules stay as they are.
+        for name, node in nodes(ast.FunctionDef):
+            if node.name == "__eq__":
+                self.assertEqual([type(row) for row in node.body], [ast.Return], name)
+                first, *rest = node.body[0].value.values
+                self.assertRegex(ast.unparse(first), r"^isinstance\(other, [A-Z][a-z]+\)$")
+                for part in rest:
+                    self.assertRegex(ast.unparse(part), r"^self\.(\w+) == other\.\1$")
+
+    def test_calls(self):
+        for name, node in nodes(ast.Call):
+            stars = [part for part in node.args if isinstance(part, ast.Starred)]
+            self.assertEqual([part for part in stars if not isinstance(part.value, ast.Name)], [], name)
+            kinds = [word.arg for word in node.keywords]
+            self.assertTrue(not kinds or (kinds == ["key"] and node.func.id in ("sorted", "min", "max")), name)
+
+    def test_raised_errors_are_made_on_the_spot(self):
+        for name, node in nodes(ast.Raise):
+            self.assertIsInstance(node.exc, ast.Call, name)
+            self.assertIn(node.exc.func.id, top_names(TREES["errors"]), name)
 
     def test_names(self):
         for name, tree in TREES.items():

@@ -181,7 +181,7 @@ class PaperOrBreachTest(unittest.TestCase):
 
     def test_ring_of_which_the_longest_road_is_dropped(self):
         self.assertEqual(find_paper(RING, ((), (3,))), {3: (0, 1, 2)})
-        self.assertEqual(find_breach(RING, ((), (2,))), (2, 3, 3, 9))
+        self.check(RING, ((), (2,)), all_lengths(RING))
         paper = find_paper(RING, ((0, 1, 2), (3,)))
         self.assertTrue(paper_ok(RING, ((0, 1, 2), (3,)), paper))
         self.assertEqual(find_paper(RING, ((0, 1, 2, 3), ())), None)
